@@ -37,6 +37,9 @@ func (a word) less(b word) bool { return a < b }
 
 func (a word) text() string { return strconv.Itoa(int(a)) }
 
+// isOp says whether something is reckoned so.
+func isOp(op int) bool { return OpAdd <= op && op <= OpXor }
+
 // WrdOk says whether a number is a word.
 func WrdOk(n int) bool {
 	return 0 <= n && n < WrdMany
@@ -49,7 +52,7 @@ func WrdWrap(n int) int {
 
 // WrdDo reckons with two words; 0, if one is none, or nothing is reckoned so.
 func WrdDo(op int, a int, b int) int {
-	if !WrdOk(a) || !WrdOk(b) || op < OpAdd || op > OpXor {
+	if !WrdOk(a) || !WrdOk(b) || !isOp(op) {
 		return 0
 	}
 	ways := []func(word, word) word{word.add, word.sub, word.mul, word.and, word.xor}
