@@ -637,19 +637,12 @@ func TestP2OverItsOwnCode(t *testing.T) {
 					t.Fatalf("instruction %d stores at %d: %d are done, not %d", number, address, done, want)
 				}
 				x, _ := impl.IrRun(impl.BlkLower(20, list), m)
-				if x.Pc != 20+want || x.Mem[address] != word || len(x.Outs) != len(m.Outs)+want-boolToInt(number < want) {
+				if x.Pc != 20+want || x.Mem[address] != word || len(x.Outs) != len(m.Outs)+want-1 {
 					t.Fatalf("instruction %d stores at %d: %+v", number, address, x)
 				}
 			}
 		}
 	}
-}
-
-func boolToInt(b bool) int {
-	if b {
-		return 1
-	}
-	return 0
 }
 
 // A reach past all words, by hand: the instructions ahead of it are done, and it stands there.
@@ -1017,7 +1010,9 @@ func TestP83EachKind(t *testing.T) {
 			b := impl.BlkLower(64-long, list)
 			set := 0
 			for _, o := range b.Ops {
-				set += boolToInt(o.Kind == impl.IrSet)
+				if o.Kind == impl.IrSet {
+					set++
+				}
 			}
 			if len(b.Ops) != long*c.many || impl.IrEvents(b) != long*c.reach || set != long*c.set {
 				t.Errorf("%d times %s: %d operations, %d reach out, %d set", long, oneOfEach[op], len(b.Ops), impl.IrEvents(b), set)
